@@ -74,13 +74,21 @@ func TestIntsWrapAndFloor(t *testing.T) {
 }
 
 func TestDivAndModMakeUpTheInt(t *testing.T) {
-	for _, a := range edgeInts() {
-		for _, b := range edgeInts() {
+	ints := edgeInts()
+	for n := int64(-25); n <= 25; n++ {
+		ints = append(ints, n, leastInt+25+n, mostInt-25+n)
+	}
+	for _, a := range ints {
+		for _, b := range ints {
 			if b == 0 {
 				continue
 			}
 			q, m := impl.Binary(impl.OpIDiv, intOf(a), intOf(b)), impl.Binary(impl.OpMod, intOf(a), intOf(b))
-			if q.Value.Num*b+m.Value.Num != a {
+			if q.Code != 0 || m.Code != 0 || q.Value.Kind != impl.KInt || m.Value.Kind != impl.KInt {
+				t.Fatalf("%d by %d: %v and %v", a, b, q, m)
+			}
+			product := impl.Binary(impl.OpMul, intOf(b), q.Value)
+			if sum := impl.Binary(impl.OpAdd, product.Value, m.Value); b*q.Value.Num+m.Value.Num != a || !alikeValued(sum, gives(intOf(a))) {
 				t.Errorf("%d by %d", a, b)
 			}
 		}
