@@ -50,6 +50,11 @@ func holdSpoilt(t *testing.T, cases []spoilt) {
 		if got := impl.States(c, 0); (len(got) == 0) != (s.want != impl.Fault{}) {
 			t.Errorf("%s: States %v", s.name, got)
 		}
+		if s.want != (impl.Fault{}) {
+			holdNothing(t, s.name, c)
+		} else if image := impl.Encode(c); !sameCodes(impl.Decode(image), c) || impl.Listing(c) == "" {
+			t.Errorf("%s: no image or no listing", s.name)
+		}
 	}
 }
 
