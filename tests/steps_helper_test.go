@@ -90,9 +90,7 @@ func holdSameRun(t *testing.T, name string, c impl.Code, in impl.Input, want imp
 func holdFewerTicks(t *testing.T, name string, c impl.Code, in impl.Input, whole impl.Report) {
 	t.Helper()
 	made := 0
-	// All allowances are tried for a short run, some for a long one.
-	step := 1 + whole.Ticks/200
-	for ticks := 0; ticks < whole.Ticks; ticks += step {
+	for ticks := range whole.Ticks {
 		in.Ticks = ticks
 		got := impl.RunCode(c, in)
 		if got.Code != 2 || got.Ticks != ticks || len(got.Vals) > 0 || got.Error != "" || got.Trace != "" {
