@@ -13,6 +13,7 @@ import (
 //
 //	proto NAME params=N rest regs=N line=N ups=l0,u1   begins a proto (no Name with a - ahead of it, 10 registers if it is not said)
 //	word:                                              names the instruction behind it
+//	name NAME R FROM TO                                a Named of register R, from and to words or numbers: from here on and to the end of the proto if it is not said
 //	add 1 ~2                                           an instruction by its name in listings; ~2 takes register 2
 //	jump word   const 0 "a"   fn 0 NAME   binary 0 add 1 2
 //
@@ -43,7 +44,11 @@ type loom struct {
 	labels map[string]int
 	jumps  []jump
 	fns    []jump
+	spans  []nameSpan
 }
+
+// nameSpan is the From and the To of a Named, which are known once all words are.
+type nameSpan struct{ from, to string }
 
 // jump is a field of an instruction that is known once all names are.
 type jump struct {
@@ -91,6 +96,8 @@ func (l *loom) statement(words []string) {
 	switch {
 	case name == "proto":
 		l.begin(args)
+	case name == "name":
+		l.naming(args)
 	case strings.HasSuffix(name, ":"):
 		l.labels[strings.TrimSuffix(name, ":")] = len(l.proto.Ins)
 	case !l.macro(name, args):
@@ -129,8 +136,40 @@ func (l *loom) begin(args []string) {
 	l.proto = &l.code.Protos[len(l.code.Protos)-1]
 }
 
-// tie fills in the jumps of the proto at hand.
+func (l *loom) naming(args []string) {
+	span := nameSpan{from: strconv.Itoa(len(l.proto.Ins))}
+	if len(args) > 2 {
+		span.from = args[2]
+	}
+	if len(args) > 3 {
+		span.to = args[3]
+	}
+	l.spans = append(l.spans, span)
+	l.proto.Named = append(l.proto.Named, impl.Named{Name: args[0], Reg: numberOf(args[1])})
+}
+
+// place is the instruction that a word names, or a number.
+func (l *loom) place(word string) int {
+	if at, there := l.labels[word]; there {
+		return at
+	}
+	return numberOf(word)
+}
+
+func (l *loom) tieNames() {
+	for i, span := range l.spans {
+		n := &l.proto.Named[i]
+		n.From, n.To = l.place(span.from), len(l.proto.Ins)
+		if span.to != "" {
+			n.To = l.place(span.to)
+		}
+	}
+	l.spans = nil
+}
+
+// tie fills in the jumps and the names of the proto at hand.
 func (l *loom) tie() {
+	l.tieNames()
 	for _, j := range l.jumps {
 		to, there := l.labels[j.name]
 		if !there {
@@ -285,7 +324,7 @@ var recNames = []string{"", "line", "call", "back", "throw", "catch", "print", "
 func reportText(r impl.Report) string {
 	var out []string
 	for _, x := range r.Recs {
-		out = append(out, fmt.Sprintf("%s %d.%d %d %s", recNames[x.Kind], x.Task, x.Fn, x.Line, plainly(x.Text)))
+		out = append(out, recText(x))
 	}
 	out = append(out, fmt.Sprintf("= %d ticks %d made %d", r.Code, r.Ticks, r.Made))
 	if len(r.Vals) > 0 {
@@ -295,6 +334,10 @@ func reportText(r impl.Report) string {
 		out = append(out, "error "+plainly(r.Error), "trace "+plainly(r.Trace))
 	}
 	return trimmed(strings.Join(out, "\n"))
+}
+
+func recText(x impl.Rec) string {
+	return fmt.Sprintf("%s %d.%d %d %s", recNames[x.Kind], x.Task, x.Fn, x.Line, plainly(x.Text))
 }
 
 // plainly is a text as it is, in quotes when it would not be told from another one in a line that is trimmed.

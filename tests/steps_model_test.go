@@ -15,6 +15,7 @@ type modelRun struct {
 	code   impl.Code
 	in     impl.Input
 	report impl.Report
+	views  []impl.View // one a record
 	tables []*modelTable
 	fns    []modelFn
 	tasks  []*modelTask
@@ -58,6 +59,7 @@ type modelFrame struct {
 	regs   []any // nil, an impl.Value, a *impl.Value or a []impl.Value
 	guards []*modelGuard
 	onWay  []impl.Value
+	below  int // names of registers from here on are not shown
 }
 
 type modelGuard struct {
@@ -83,8 +85,14 @@ type (
 )
 
 func modelReport(c impl.Code, in impl.Input) impl.Report {
+	report, _ := modelLooks(c, in)
+	return report
+}
+
+// modelLooks is the Report, and the View at each of its records.
+func modelLooks(c impl.Code, in impl.Input) (impl.Report, []impl.View) {
 	if impl.CheckCode(c) != (impl.Fault{}) || !impl.InputOk(in) {
-		return impl.Report{Code: 3}
+		return impl.Report{Code: 3}, nil
 	}
 	m := &modelRun{code: c, in: in, lines: in.Lines}
 	m.now = &modelTask{state: "running"}
@@ -112,7 +120,7 @@ func modelReport(c impl.Code, in impl.Input) impl.Report {
 			modelTry(t.stop)
 		}
 	}
-	return m.report
+	return m.report, m.views
 }
 
 // modelTry answers what leaves a function, nil when nothing does.
@@ -148,6 +156,27 @@ func (m *modelRun) rec(kind, fn, line int, text string) {
 		panic(modelOver{})
 	}
 	m.report.Recs = append(m.report.Recs, impl.Rec{Kind: kind, Task: m.now.number, Fn: fn, Line: line, Text: text})
+	m.views = append(m.views, m.view())
+}
+
+func (m *modelRun) view() impl.View {
+	v := impl.View{Ok: true, Task: m.now.number}
+	for i := len(m.now.frames) - 1; i >= 0; i-- {
+		f := m.now.frames[i]
+		open := impl.Open{Fn: f.proto, Line: f.line}
+		for _, n := range m.code.Protos[f.proto].Named {
+			if n.From <= f.at && f.at < n.To && n.Reg < f.below {
+				switch held := f.regs[n.Reg].(type) {
+				case impl.Value:
+					open.Vars = append(open.Vars, impl.Shown{Name: n.Name, Text: impl.Text(held)})
+				case *impl.Value:
+					open.Vars = append(open.Vars, impl.Shown{Name: n.Name, Text: impl.Text(*held)})
+				}
+			}
+		}
+		v.Calls = append(v.Calls, open)
+	}
+	return v
 }
 
 func (m *modelRun) get(v, k impl.Value) impl.Value {
@@ -205,7 +234,7 @@ func (m *modelRun) spend(n int) {
 
 func (m *modelRun) enter(callee impl.Value, fn modelFn, args []impl.Value) {
 	p := m.code.Protos[fn.proto]
-	f := &modelFrame{fn: callee, proto: fn.proto, regs: make([]any, p.Regs)}
+	f := &modelFrame{fn: callee, proto: fn.proto, regs: make([]any, p.Regs), below: p.Regs}
 	args = slices.Clone(args)
 	for i := range p.Params {
 		f.regs[i] = impl.Value{}
@@ -250,6 +279,8 @@ func (m *modelRun) callFn(callee impl.Value, args []impl.Value) []impl.Value {
 	m.rec(impl.RecCall, fn.proto, m.code.Protos[fn.proto].Line, m.code.Protos[fn.proto].Name)
 	out := modelTry(m.run)
 	end := func(how string) {
+		f := m.frame()
+		f.line, f.below = 0, m.code.Protos[fn.proto].Params
 		m.rec(impl.RecBack, fn.proto, 0, how)
 		m.now.frames = m.now.frames[:len(m.now.frames)-1]
 	}
@@ -287,6 +318,7 @@ func (m *modelRun) run() {
 func (m *modelRun) leave(f *modelFrame, out any) {
 	for len(f.guards) > 0 && out != (modelOver{}) {
 		g := f.guards[len(f.guards)-1]
+		f.below = g.keep
 		if !g.try {
 			clear(f.regs[g.keep:])
 			out = m.defers(f, g, out)
@@ -295,10 +327,10 @@ func (m *modelRun) leave(f *modelFrame, out any) {
 		f.guards = f.guards[:len(f.guards)-1]
 		if thrown, ok := out.(modelThrow); ok {
 			clear(f.regs[g.keep:])
-			f.line = g.line
+			f.line, f.at = g.line, g.handler
 			m.rec(impl.RecCatch, f.proto, f.line, m.told(thrown.value))
 			f.regs[g.keep], f.regs[g.keep+1] = thrown.value, thrown.trace
-			f.at = g.handler
+			f.below = len(f.regs)
 			return
 		}
 	}
@@ -327,6 +359,7 @@ func (m *modelRun) defers(f *modelFrame, g *modelGuard, out any) any {
 			return left
 		}
 		clear(f.regs[g.keep:])
+		f.below = g.keep
 		thrown, isThrown := left.(modelThrow)
 		if out == (modelGone{}) && isThrown {
 			m.now.dropped = []impl.Value{thrown.value, thrown.trace}
